@@ -1,0 +1,1 @@
+"""Polynomials of whole numbers, taken apart."""
