@@ -41,6 +41,12 @@ def greatest_divisor(left, right):
     return larger
 
 
+def divisors(number):
+    """Those above 0 of a number that isn't 0, rising."""
+    size = abs(number)
+    return [divisor for divisor in range(1, size + 1) if size % divisor == 0]
+
+
 def lowest_terms(above, below):
     divisor = greatest_divisor(above, below)
     if below < 0:
@@ -158,3 +164,34 @@ def discriminant(polynomial):
     if high * (high - 1) // 2 % 2 == 1:
         return -number
     return number
+
+
+def square_free(polynomial):
+    """Of one that isn't 0. A part that is there several times is in the slope just once less often."""
+    surplus = greatest_common(polynomial, slope(polynomial))
+    return bare(divided(polynomial, surplus)[0])
+
+
+def value_at(polynomial, above, below):
+    """The value for above divided by below, as a fraction."""
+    total = 0
+    scale = 1
+    for number in reversed(polynomial):
+        scale = scale * below
+        total = total * above + number * scale
+    return lowest_terms(total, scale)
+
+
+def power_less_1(power):
+    return [-1] + [0] * (power - 1) + [1]
+
+
+def circle(place):
+    """The circle's for the place. Their last numbers are 1, so that all quotients are whole as they stand."""
+    known = {}
+    for divisor in divisors(place):
+        rest = power_less_1(divisor)
+        for smaller in divisors(divisor)[:-1]:
+            rest = divided(rest, known[smaller])[0]
+        known[divisor] = rest
+    return known[place]

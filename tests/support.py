@@ -7,6 +7,11 @@ DIVIDE = [3]
 COMMON = [4]
 RESULTANT = [5]
 DISC = [6]
+APART = [7]
+IRREDUCIBLE = [8]
+RATIONALS = [9]
+SQUAREFREE = [10]
+SWAP = [13]
 
 
 def handed(number):
@@ -29,6 +34,26 @@ def two(*numbers):
     return two_as_handed(*[handed(number) for number in numbers])
 
 
+def circle(n):
+    return [11, n]
+
+
+def value_as_handed(a, b):
+    return [12, a, b]
+
+
+def value(a, b):
+    return value_as_handed(handed(a), b)
+
+
+# None of these changes one of the two polynomials.
+EVERY_READER = [
+    TIMES, DIVIDE, COMMON, RESULTANT, DISC, APART, IRREDUCIBLE, RATIONALS, SQUAREFREE, value(-2, 3),
+]
+# With these, all that can be seen of both polynomials is seen.
+ALL_THERE_IS = [*EVERY_READER, SWAP, *EVERY_READER]
+
+
 def ask(*calls):
     """The answer to each of the calls, which are asked as one list."""
     given = answers([number for call in calls for number in call])
@@ -45,6 +70,40 @@ def ask(*calls):
 
 def ask_last(*calls):
     return ask(*calls)[-1]
+
+
+def told_of_both(*calls):
+    """What is answered about both polynomials behind the calls."""
+    return ask(*calls, *ALL_THERE_IS)[len(calls):]
+
+
+def parts_told(answer):
+    """The whole number, and (how often, part) of each part, of an answer of apart."""
+    start, whole, count = answer[:3]
+    parts = []
+    place = 3
+    while place < len(answer):
+        end = place + 2 + answer[place + 1]
+        parts.append((answer[place], answer[place + 2:end]))
+        place = end
+    if start != 0 or place != len(answer) or len(parts) != count:
+        raise AssertionError(f"{answer} is not told as parts")
+    return whole, parts
+
+
+def times(left, right):
+    numbers = [0] * max(len(left) + len(right) - 1, 0)
+    for i, a in enumerate(left):
+        for j, b in enumerate(right):
+            numbers[i + j] += a * b
+    return numbers if left and right else []
+
+
+def from_roots(lead, roots):
+    numbers = [lead]
+    for root in roots:
+        numbers = times(numbers, [-root, 1])
+    return numbers
 
 
 class Numbers:

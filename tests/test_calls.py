@@ -2,13 +2,29 @@
 
 import unittest
 
-from apartpolynomials.polynomials import Line, answer_disc, answer_resultant, answers
+from apartpolynomials.polynomials import answers
 from support import (
-    COMMON, DISC, DIVIDE, RESULTANT, TIMES,
-    ask, ask_last, one, one_as_handed, two, two_as_handed,
+    ALL_THERE_IS, APART, COMMON, DISC, DIVIDE, EVERY_READER, IRREDUCIBLE, RATIONALS, RESULTANT, SQUAREFREE, SWAP, TIMES,
+    ask, ask_last, circle, one, one_as_handed, told_of_both, two, two_as_handed, value,
 )
 
-EVERY_READER = [TIMES, DIVIDE, COMMON, RESULTANT, DISC]
+EVERY_CALL = [
+    [0, 6, 1, 2, 3, 4, 5, 6], [1, 3, 0, 7, 0], [2], [3], [4], [5], [6], [7], [8], [9], [10], [11, 12], [12, 5, 6], [13],
+]
+EVERY_REFUSAL = [
+    [0, 7] + [61] * 7, [1, 1, 61], [11, 0], [11, 31], [12, 5, 0], [1, 0], [3], [13], [6], [7], [9], [10], [0, 1, 26],
+    [7], [8], [9], [11, 7], [5], [6],
+]
+
+
+class Unchanging(list):
+    """A list that can't be changed."""
+
+    def changed(self, *given):
+        raise AssertionError("a list that is handed in was changed")
+
+    __setitem__ = __delitem__ = __iadd__ = __imul__ = changed
+    append = extend = insert = pop = remove = clear = sort = reverse = changed
 
 
 class TheInterface(unittest.TestCase):
@@ -26,10 +42,40 @@ class TheInterface(unittest.TestCase):
         self.assertEqual(answers([1, 20] + [4294967295] * 20 + [6]), [1, -1, 2, 0, 1])
 
     def test_what_is_handed_in_is_not_changed(self):
-        for calls in ([2], [0, 6, 1, 2, 3, 4, 5, 6, 1, 3, 0, 7, 0, 2, 3, 4, 5, 6], [0, 7] + [61] * 7, [1, 0, 3, 4, 5]):
+        for asked in (EVERY_CALL, EVERY_REFUSAL, [*EVERY_CALL, *reversed(EVERY_CALL)], *[[call] for call in EVERY_CALL]):
+            calls = [number for call in asked for number in call]
             before = list(calls)
-            answers(calls)
+            given = answers(calls)
             self.assertEqual(calls, before)
+            self.assertIsNot(given, calls)
+
+    def test_what_is_handed_in_is_not_changed_for_a_while_either(self):
+        for asked in (EVERY_CALL, EVERY_REFUSAL):
+            calls = [number for call in asked for number in call]
+            self.assertEqual(answers(Unchanging(calls)), answers(calls))
+
+    def test_how_the_calls_stand_in_the_list(self):
+        self.assertEqual(
+            answers([0, 3, 1, 0, 2, 7, 8, 9, 10, 11, 3, 12, 3, 4, 13]),
+            [
+                4, 3, -1, 0, 1, 11, 0, 1, 2, 1, 2, -1, 1, 1, 2, 1, 1, 1, 0, 5, 2, -1, 1, 1, 1, 4, 3, -1, 0, 1,
+                4, 3, 1, 1, 1, 2, 3, 4, 2, 1, 1,
+            ],
+        )
+
+    def test_each_call_may_be_the_first(self):
+        for call in EVERY_CALL:
+            self.assertEqual(len(ask(call, SWAP)), 2)
+        self.assertEqual(answers([11, 1]), [3, 2, -1, 1])
+        self.assertEqual(answers([12, 6, 2]), [2, 3, 2])
+        self.assertEqual(answers([13]), [2, 1, 1])
+
+    def test_every_refusal_is_one_number_alone(self):
+        single = ask(*EVERY_REFUSAL)
+        self.assertEqual(single, [
+            [-1], [-1], [-1], [-1], [-6], [0], [-6], [0], [-6], [-6], [-6], [-6], [1, 13],
+            [-6], [-6], [-6], [7, 1, 1, 1, 1, 1, 1, 1], [-5], [-5],
+        ])
 
     def test_what_is_given_back_is_not_kept(self):
         calls = [2, 3, 4, 5, 6]
@@ -40,14 +86,16 @@ class TheInterface(unittest.TestCase):
         self.assertEqual(answers(calls), kept)
 
     def test_nothing_is_kept_from_one_time_to_the_next(self):
-        fresh = ask(*EVERY_READER)
-        ask(one(1, 2, 3), two(4, 5))
-        self.assertEqual(ask(*EVERY_READER), fresh)
+        fresh = ask(*ALL_THERE_IS)
+        for before in ([one(1, 2, 3), two(4, 5)], [circle(12)], [SWAP], [circle(5), SWAP, circle(30)]):
+            ask(*before)
+            self.assertEqual(ask(*ALL_THERE_IS), fresh)
 
     def test_answers_are_plain_whole_numbers_in_a_list(self):
-        given = answers([0, 3, 2, 0, 4, 1, 0, 2, 3, 4, 5, 6, 1, 2, 2, 4, 3])
-        self.assertIs(type(given), list)
-        self.assertEqual({type(number) for number in given}, {int})
+        for asked in (EVERY_CALL, EVERY_REFUSAL, ALL_THERE_IS, [one(0, -1, 0, 1), *ALL_THERE_IS]):
+            given = answers([number for call in asked for number in call])
+            self.assertIs(type(given), list)
+            self.assertEqual({type(number) for number in given}, {int})
 
     def test_thirty_calls(self):
         calls = [two(30, -30, 30, -30, 30, -30), one(-30, 30, -30, 30, -30, 29)] + [RESULTANT] * 28
@@ -63,6 +111,12 @@ class TheBeginning(unittest.TestCase):
         self.assertEqual(ask(COMMON), [[1, 1]])
         self.assertEqual(ask(RESULTANT), [[0, 1]])
         self.assertEqual(ask(DISC), [[0, 1]])
+        self.assertEqual(ask(APART), [[0, 1, 1, 1, 2, 0, 1]])
+        self.assertEqual(ask(IRREDUCIBLE), [[1]])
+        self.assertEqual(ask(RATIONALS), [[1, 0, 1]])
+        self.assertEqual(ask(SQUAREFREE), [[2, 0, 1]])
+        self.assertEqual(ask(value(-3, 5)), [[-3, 5]])
+        self.assertEqual(ask(SWAP, SWAP), [[1, 1], [2, 0, 1]])
 
     def test_the_second_is_1_beside_another_first(self):
         self.assertEqual(ask_last(one(3, 4), TIMES), [2, 3, 4])
@@ -115,16 +169,15 @@ class OneAndTwo(unittest.TestCase):
 
     def test_all_is_as_it_was_after_a_refusal(self):
         kept = [one(5, 6), two(7, 8, 9)]
-        without = ask(*kept, *EVERY_READER)[2:]
-        for wrong in ([one_as_handed(61)], [two_as_handed(2, 61)], [one(*[1] * 7)], [two(*[1] * 7)]):
-            given = ask(*kept, *wrong, *EVERY_READER)
-            self.assertEqual(given[2], [-1])
-            self.assertEqual(given[3:], without)
+        without = told_of_both(*kept)
+        for wrong in (one_as_handed(61), two_as_handed(2, 61), one(*[1] * 7), two(*[1] * 7)):
+            self.assertEqual(ask_last(*kept, wrong), [-1])
+            self.assertEqual(told_of_both(*kept, wrong), without)
 
     def test_a_refusal_at_the_beginning_leaves_x_and_1(self):
-        given = ask(one(*[1] * 7), two_as_handed(61), *EVERY_READER)
+        given = ask(one(*[1] * 7), two_as_handed(61), *ALL_THERE_IS)
         self.assertEqual(given[:2], [[-1], [-1]])
-        self.assertEqual(given[2:], ask(*EVERY_READER))
+        self.assertEqual(given[2:], ask(*ALL_THERE_IS))
 
 
 class Times(unittest.TestCase):
@@ -246,12 +299,16 @@ class Resultant(unittest.TestCase):
         self.assertEqual(ask_last(one(0, 0, 0, 0, 0, 1), two(3, 0, 0, 0, 0, 1), RESULTANT), [0, 243])
 
     def test_a_degree_above_5_is_refused(self):
-        for first, second in (([1] * 7, [1]), ([1], [1] * 7), ([1] * 7, [1] * 7), ([1] * 7, []), ([], [1] * 7)):
-            line = Line()
-            line.first = list(first)
-            line.second = list(second)
-            self.assertEqual(answer_resultant(line), [-5])
-            self.assertEqual((line.first, line.second), (first, second))
+        for n in (7, 9, 11, 29):
+            for second in (two(1), two(), two(1, 2, 3, 4, 5, 6)):
+                self.assertEqual(ask_last(circle(n), second, RESULTANT), [-5])
+                self.assertEqual(ask_last(circle(n), second, SWAP, RESULTANT), [-5])
+            self.assertEqual(ask_last(circle(n), SWAP, circle(14), RESULTANT), [-5])
+
+    def test_all_is_as_it_was_after_a_degree_above_5(self):
+        for kept in ([circle(7), two(2, 3)], [circle(7), two(2, 3), SWAP]):
+            self.assertEqual(ask_last(*kept, RESULTANT), [-5])
+            self.assertEqual(told_of_both(*kept, RESULTANT), told_of_both(*kept))
 
 
 class Disc(unittest.TestCase):
@@ -296,10 +353,12 @@ class Disc(unittest.TestCase):
         self.assertEqual(given[2:], [[-6], [2, 8, 12], [0, 4], [0], [-6], [0], [2, 2, 3]])
 
     def test_a_degree_above_5_is_refused(self):
-        line = Line()
-        line.first = [1, 0, 0, 0, 0, 0, 1]
-        self.assertEqual(answer_disc(line), [-5])
-        self.assertEqual((line.first, line.second), ([1, 0, 0, 0, 0, 0, 1], [1]))
+        for n in (7, 9, 11, 29):
+            self.assertEqual(ask_last(circle(n), DISC), [-5])
+        self.assertEqual(ask(circle(7), two(1, 2), DISC, SWAP, DISC)[2:], [[-5], [2, 1, 2], [0, 1]])
+
+    def test_all_is_as_it_was_after_a_degree_above_5(self):
+        self.assertEqual(told_of_both(circle(7), two(2, 3), DISC), told_of_both(circle(7), two(2, 3)))
 
 
 class CallsTogether(unittest.TestCase):

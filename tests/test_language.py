@@ -119,6 +119,16 @@ class Language(unittest.TestCase):
                 if isinstance(node, ast.Name) and isinstance(node.ctx, ast.Load):
                     self.assertIn(node.id, bound | OWN_NAMES)
 
+    def test_no_local_is_called_like_an_import_or_a_class(self):
+        for text, tree in texts_and_trees():
+            top = {node.name for node in tree.body if isinstance(node, ast.ClassDef)}
+            for node in tree.body:
+                if isinstance(node, ast.ImportFrom):
+                    top.update(name.name for name in node.names)
+            for node in tree.body:
+                if isinstance(node, ast.FunctionDef):
+                    self.assertEqual(top & set(names_bound(node)), set(), node.name)
+
     def test_methods(self):
         own = {name for text, tree in texts_and_trees() for name in names_bound(tree)}
         for text, tree in texts_and_trees():

@@ -5,17 +5,9 @@ from fractions import Fraction
 from itertools import permutations, product as choices
 from math import gcd, prod
 
-from support import COMMON, DISC, DIVIDE, RESULTANT, TIMES, Numbers, ask, one, two
+from support import COMMON, DISC, DIVIDE, RESULTANT, TIMES, Numbers, ask, from_roots, one, times, two
 
 ROUNDS = 1500
-
-
-def times(left, right):
-    numbers = [0] * max(len(left) + len(right) - 1, 0)
-    for i, a in enumerate(left):
-        for j, b in enumerate(right):
-            numbers[i + j] += a * b
-    return numbers if left and right else []
 
 
 def plus(left, right):
@@ -23,13 +15,6 @@ def plus(left, right):
     numbers = [a + b for a, b in zip(left + [0] * (length - len(left)), right + [0] * (length - len(right)))]
     while numbers and numbers[-1] == 0:
         numbers.pop()
-    return numbers
-
-
-def from_roots(lead, roots):
-    numbers = [lead]
-    for root in roots:
-        numbers = times(numbers, [-root, 1])
     return numbers
 
 
