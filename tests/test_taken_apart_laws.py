@@ -145,27 +145,21 @@ class Laws(unittest.TestCase):
             if polynomial:
                 self.check_taken_apart(polynomial)
 
-    def test_two_of_degree_2(self):
-        numbers = Numbers(13)
+    def check_products_of_two(self, numbers, left_degree, right_degree):
         checked = 0
         while checked < 300:
-            left = [numbers.between(-4, 4), numbers.between(-4, 4), numbers.between(1, 4)]
-            right = [numbers.between(-4, 4), numbers.between(-4, 4), numbers.between(1, 4)]
+            left = [numbers.between(-4, 4) for power in range(left_degree)] + [numbers.between(1, 4)]
+            right = [numbers.between(-4, 4) for power in range(right_degree)] + [numbers.between(1, 4)]
             polynomial = times(left, right)
             if max(abs(number) for number in polynomial) <= 12:
                 self.check_taken_apart(polynomial)
                 checked += 1
 
+    def test_two_of_degree_2(self):
+        self.check_products_of_two(Numbers(13), 2, 2)
+
     def test_a_degree_of_2_and_a_degree_of_3(self):
-        numbers = Numbers(14)
-        checked = 0
-        while checked < 300:
-            left = [numbers.between(-3, 3), numbers.between(-3, 3), numbers.between(1, 3)]
-            right = [numbers.between(-3, 3), numbers.between(-3, 3), numbers.between(-3, 3), numbers.between(1, 3)]
-            polynomial = times(left, right)
-            if max(abs(number) for number in polynomial) <= 12:
-                self.check_taken_apart(polynomial)
-                checked += 1
+        self.check_products_of_two(Numbers(14), 2, 3)
 
     def test_roots_are_those_that_make_it_0(self):
         numbers = Numbers(15)
